@@ -1,0 +1,1 @@
+"""What lies together: the orders that keep the told sets of things together."""
