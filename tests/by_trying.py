@@ -2,6 +2,8 @@
 
 from itertools import permutations
 
+NUMBERS_BEHIND = {0: 1, 1: 1, 2: 1, 3: 0, 4: 0, 5: 3}
+
 
 def keeps(order, things):
     places = [place for place, thing in enumerate(order) if things >> thing & 1]
@@ -10,6 +12,11 @@ def keeps(order, things):
 
 def orders_keeping(n, told):
     return [order for order in permutations(range(n)) if all(keeps(order, things) for things in told)]
+
+
+def is_between(order, a, b, c):
+    places = [order.index(a), order.index(b), order.index(c)]
+    return sorted(places)[1] == places[1]
 
 
 class Trying:
@@ -33,11 +40,18 @@ class Trying:
             self.known[things] = sum(1 << k for k, order in enumerate(self.every) if keeps(order, things))
         return self.known[things]
 
-    def possible(self, sets):
+    def keeping(self, sets):
         bits = (1 << len(self.every)) - 1
         for things in sets:
             bits &= self.bits(things)
-        return bits != 0
+        return bits
+
+    def possible(self, sets):
+        return self.keeping(sets) != 0
+
+    def possible_orders(self):
+        bits = self.keeping(self.told)
+        return [order for k, order in enumerate(self.every) if bits >> k & 1]
 
     def to_say(self, things):
         if things >= 1 << self.n:
@@ -61,11 +75,28 @@ class Trying:
                 left = others
         return [len(left), sum(1 << number for number in left)]
 
+    def to_many(self):
+        return [0, len(self.possible_orders())]
+
+    def to_order(self):
+        return [self.n] + list(min(self.possible_orders()))
+
+    def to_between(self, a, b, c):
+        if len({a, b, c} & set(range(self.n))) != 3:
+            return [-22]
+        seen = {is_between(order, a, b, c) for order in self.possible_orders()}
+        return [2 if len(seen) == 2 else int(seen.pop())]
+
 
 def tried_answers(calls):
     trying = Trying()
     given = []
-    for call, number in zip(calls[::2], calls[1::2]):
-        answer = [trying.to_start, trying.to_say, trying.to_why][call](number)
+    at = 0
+    while at < len(calls):
+        behind = at + 1 + NUMBERS_BEHIND[calls[at]]
+        call = [trying.to_start, trying.to_say, trying.to_why,
+                trying.to_many, trying.to_order, trying.to_between][calls[at]]
+        answer = call(*calls[at + 1:behind])
         given += [len(answer)] + answer
+        at = behind
     return given

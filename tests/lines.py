@@ -15,6 +15,18 @@ def why(*things):
     return [2, bits(things)]
 
 
+def many():
+    return [3]
+
+
+def order():
+    return [4]
+
+
+def between(a, b, c):
+    return [5, a, b, c]
+
+
 def bits(things):
     return sum(1 << thing for thing in things)
 

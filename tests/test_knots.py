@@ -4,8 +4,9 @@ import random
 import unittest
 from itertools import permutations, product
 
-from tests.by_trying import orders_keeping
+from tests.by_trying import is_between, orders_keeping
 from togethersets.knots import tree_keeping_all, tree_of_all
+from togethersets.readings import first_order, how_many_orders, how_surely_between
 
 
 def read_from(knot):
@@ -17,6 +18,16 @@ def read_from(knot):
     else:
         rows = permutations(knot.below)
     return [sum(parts, ()) for row in rows for parts in product(*[read_from(below) for below in row])]
+
+
+def cut_from_one_row(draw, n):
+    """Sets that never deny one another, so that trees with many knots come about."""
+    row = draw.sample(range(n), n)
+    told = []
+    for _ in range(draw.randint(1, 6)):
+        ends = sorted(draw.sample(range(n + 1), 2))
+        told.append(sum(1 << thing for thing in row[ends[0]:ends[1]]))
+    return told
 
 
 class Tree(unittest.TestCase):
@@ -46,16 +57,10 @@ class Tree(unittest.TestCase):
                 self.check(n, [draw.randrange(1 << n) for _ in range(draw.randint(1, 5))])
 
     def test_sets_that_some_order_keeps(self):
-        # Sets cut from one row never deny one another, so that trees with many knots come about.
         draw = random.Random(3)
         for n, times in ((5, 200), (6, 60), (7, 10)):
             for _ in range(times):
-                row = draw.sample(range(n), n)
-                told = []
-                for _ in range(draw.randint(1, 6)):
-                    ends = sorted(draw.sample(range(n + 1), 2))
-                    told.append(sum(1 << thing for thing in row[ends[0]:ends[1]]))
-                self.check(n, told)
+                self.check(n, cut_from_one_row(draw, n))
 
     def test_a_tree_is_not_changed_by_what_is_made_from_it(self):
         tree = tree_keeping_all(tree_of_all(5), [7, 6])
@@ -63,6 +68,20 @@ class Tree(unittest.TestCase):
         for things in range(32):
             tree_keeping_all(tree, [things, 12])
         self.assertEqual(sorted(read_from(tree)), before)
+
+
+class Readings(unittest.TestCase):
+    def test_as_if_each_order_were_read(self):
+        draw = random.Random(14)
+        for n, times in ((3, 30), (4, 60), (5, 150), (6, 60), (7, 8)):
+            for _ in range(times):
+                tree = tree_keeping_all(tree_of_all(n), cut_from_one_row(draw, n))
+                read = read_from(tree)
+                self.assertEqual(how_many_orders(tree), len(read))
+                self.assertEqual(first_order(tree), list(min(read)))
+                a, b, c = draw.sample(range(n), 3)
+                seen = sum(is_between(order, a, b, c) for order in read)
+                self.assertEqual(how_surely_between(tree, a, b, c), {0: 0, len(read): 1}.get(seen, 2))
 
 
 if __name__ == "__main__":

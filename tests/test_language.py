@@ -15,7 +15,7 @@ NODES = {
     "RShift", "And", "Or", "Not", "USub", "Eq", "NotEq", "Lt", "LtE", "Gt", "GtE", "Is", "IsNot", "In", "NotIn",
 }
 BUILT_IN = {"len", "range", "min", "max", "sum", "abs", "sorted", "reversed", "list", "tuple", "dict", "any", "all"}
-METHODS = {"append", "extend"}
+METHODS = {"append", "extend", "bit_length"}
 WORDS = re.compile(
     r"\b(type|typing|typing_extensions|enum|Enum|IntEnum|StrEnum|Flag|IntFlag|Generic|Protocol|ABC|ABCMeta|namedtuple"
     r"|NamedTuple|TypedDict|TYPE_CHECKING|abstractmethod)\b|dataclass|overload|contextmanager")

@@ -5,9 +5,12 @@ from togethersets.sayings import Sayings
 TO_START = 0
 TO_SAY = 1
 TO_WHY = 2
+TO_MANY = 3
+TO_ORDER = 4
+TO_BETWEEN = 5
 
 # How many numbers follow a call's own number, by that number.
-NUMBERS_BEHIND = (1, 1, 1)
+NUMBERS_BEHIND = (1, 1, 1, 0, 0, 3)
 
 
 def answers(calls):
@@ -29,4 +32,10 @@ def answer_of(listener, call, numbers):
         return listener.to_start(numbers[0])
     if call == TO_SAY:
         return listener.to_say(numbers[0])
-    return listener.to_why(numbers[0])
+    if call == TO_WHY:
+        return listener.to_why(numbers[0])
+    if call == TO_MANY:
+        return listener.to_many()
+    if call == TO_ORDER:
+        return listener.to_order()
+    return listener.to_between(numbers[0], numbers[1], numbers[2])

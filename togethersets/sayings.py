@@ -1,6 +1,7 @@
 """The object that is told which things stood together."""
 
 from togethersets.knots import tree_keeping_all, tree_of_all
+from togethersets.readings import first_order, how_many_orders, how_surely_between
 
 MOST_THINGS = 64
 MOST_SETS = 64
@@ -52,6 +53,17 @@ class Sayings:
         for number in needed:
             numbers = numbers | (1 << number)
         return [len(needed), numbers]
+
+    def to_many(self):
+        return [0, how_many_orders(self.tree)]
+
+    def to_order(self):
+        return [self.n] + first_order(self.tree)
+
+    def to_between(self, a, b, c):
+        if a == b or b == c or a == c or max(a, b, c) >= self.n:
+            return [NOT_A_THING]
+        return [how_surely_between(self.tree, a, b, c)]
 
     def has_strangers(self, things):
         return things >> self.n != 0
